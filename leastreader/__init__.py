@@ -1,0 +1,1 @@
+"""Leastreader: what a reader of copies and codes must hold, for all formats of a kind."""

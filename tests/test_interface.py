@@ -1,0 +1,56 @@
+"""The interface: names, arguments, their order, keywords and default values, and where each name is defined."""
+
+import importlib
+import inspect
+import unittest
+
+INTERFACE = {
+    "letters": (
+        "check_row(row, n)", "check_window(window, n, width)", "at_place(window, place, /)",
+        "moved_on(window, row, /)"),
+    "tokens": ("check_token(token, n, width, many)", "shown_token(token)", "read_token(text)"),
+    "recents": (
+        "check_recents(recents, width)", "after_copy(recents, distance, rule)", "after_again(recents, index, rule)",
+        "moved_order(many, rule, indexes)", "last_used(start, used)", "fewest_moves(before, after, rule)"),
+    "telling": (
+        "resolved(token, recents, width)", "output_of(token, window, recents)",
+        "recents_behind(token, recents, width, *, copied='front', again='front')",
+        "run_tokens(tokens, window, recents, *, n, copied='front', again='front')"),
+    "placemaps": (
+        "PlaceMap(entries, width)",
+        "PlaceMap.made(tokens, recents, width, *, copied='front', again='front')",
+        "PlaceMap.width", "PlaceMap.__len__()", "PlaceMap.__iter__()", "PlaceMap.__eq__(other)",
+        "PlaceMap.__contains__(x)", "PlaceMap.__add__(other)", "PlaceMap.filled(window)", "PlaceMap.needs()",
+        "PlaceMap.left()", "PlaceMap.forgotten(depth)"),
+    "blocks": (
+        "Blocks(width, n)", "Blocks.meet(one, other)", "Blocks.letter_of(place)", "Blocks.groups()",
+        "Blocks.count()", "Blocks.solved()"),
+}
+CLASS_METHODS = ("PlaceMap.made",)
+
+
+class Interface(unittest.TestCase):
+    def test_every_name_is_defined_in_its_file_with_its_arguments(self):
+        for module, entries in INTERFACE.items():
+            for entry in entries:
+                with self.subTest(module=module, entry=entry):
+                    self.check(importlib.import_module("leastreader." + module), entry)
+
+    def check(self, module, entry):
+        name, bracket, arguments = entry.partition("(")
+        owner, _, method = name.partition(".")
+        found = vars(module)[owner]
+        self.assertEqual(found.__module__, module.__name__)
+        if not method:
+            self.assertEqual(owner + str(inspect.signature(found)), entry)
+            return
+        made = vars(found)[method]
+        if not bracket:
+            self.assertIsInstance(made, property)
+            return
+        self.assertEqual(isinstance(made, classmethod), name in CLASS_METHODS)
+        plain = made.__func__ if name in CLASS_METHODS else made
+        first = list(inspect.signature(plain).parameters)[0]
+        self.assertEqual(first, "cls" if name in CLASS_METHODS else "self")
+        behind = str(inspect.signature(plain)).replace(first + ", ", "", 1).replace(first, "", 1)
+        self.assertEqual(name + behind, entry)
