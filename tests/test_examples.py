@@ -31,4 +31,4 @@ class Examples(Case):
             self.assertEqual(getattr(error, raised[2]), int(raised[3]))
 
     def test_there_are_examples(self):
-        self.assertGreaterEqual(len(EXAMPLES), 6)
+        self.assertGreaterEqual(len(EXAMPLES), 17)

@@ -25,8 +25,25 @@ INTERFACE = {
     "blocks": (
         "Blocks(width, n)", "Blocks.meet(one, other)", "Blocks.letter_of(place)", "Blocks.groups()",
         "Blocks.count()", "Blocks.solved()"),
+    "likeness": (
+        "first_unlike(a, b)", "parting_window(a, b)", "telling_windows(a, row, n)", "common_windows(a, b, n)"),
+    "nearest": ("nearest_distances(a)", "least_distance(a)", "tokens_for(a)"),
+    "fewest": (
+        "held(a, i, j, *, most, longest=40)", "fewest_tokens(a, *, most, longest=40)", "unheld(a, *, most, longest=40)"),
+    "signs": (
+        "check_sign(sign, n, width, many, tables)", "spread(sign)", "shown_sign(sign)", "read_sign(text)"),
+    "words": ("free_words(lengths)", "lengths_back(words)", "sums(lengths)"),
+    "tables": (
+        "Table(rows, *, n, width, many, tables)", "Table.__len__()", "Table.__iter__()", "Table.__contains__(x)",
+        "Table.__eq__(other)", "Table.full", "Table.words()", "Table.begun_words()", "Table.gaps()",
+        "Table.token(word)", "Table.rests(begun)", "Table.first_word(token)", "Table.pairs()"),
+    "bitrows": ("check_bits(bits)", "split_bits(table, bits)", "parting_bits(one, other)"),
+    "formats": (
+        "Format(n, width, *, recents=(), copied='front', again='front', tables, restarts=False)", "Format.n",
+        "Format.width", "Format.recents", "Format.copied", "Format.again_rule", "Format.restarts", "Format.__len__()",
+        "Format.__eq__(other)", "Format.table(number)", "Format.shown()", "Format.read(lines)"),
 }
-CLASS_METHODS = ("PlaceMap.made",)
+CLASS_METHODS = ("PlaceMap.made", "Format.read")
 
 
 class Interface(unittest.TestCase):
