@@ -25,6 +25,15 @@ def told_row(plain, window):
     return ()
 
 
+def told_count(plain):
+    """How many letters a resolved token outputs."""
+    if plain[0] == "letter":
+        return 1
+    if plain[0] == "copy":
+        return plain[2]
+    return 0
+
+
 def move_recents(token, recents, width, copied, again):
     """The recents behind the token; nothing is checked."""
     if token[0] == "again" and token[2] == 0:

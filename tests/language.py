@@ -242,8 +242,8 @@ def check_values(text, tree):
         if isinstance(node, ast.GeneratorExp) and called not in ("list", "tuple", "dict"):
             # Other calls take a list, because classes of the package have an __eq__ (L7).
             yield node.lineno, "a generator expression"
-        if isinstance(node, (ast.Yield, ast.YieldFrom, ast.Await, ast.AnnAssign)):
-            yield node.lineno, "yield, await or an annotation"
+        if isinstance(node, (ast.YieldFrom, ast.Await, ast.AnnAssign)):
+            yield node.lineno, "yield from, await or an annotation"
         is_set = isinstance(node, ast.SetComp)
         is_set = is_set or (isinstance(node, ast.Call) and isinstance(node.func, ast.Name) and node.func.id == "set")
         if is_set and called not in ("len", "sorted") and not isinstance(parent, (ast.Compare, ast.Assign)):
@@ -253,6 +253,27 @@ def check_values(text, tree):
         views = isinstance(node, ast.Call) and isinstance(node.func, ast.Name)
         if views and node.func.id in ("zip", "enumerate", "reversed") and isinstance(parent, (ast.Return, ast.Compare)):
             yield node.lineno, "what is iterated at once is kept"
+
+
+def check_generators(text, tree):
+    """L23: a yield is a statement of a function at module level, which no file of the package calls."""
+    makers = set()
+    for function in functions(tree):
+        yields = [node for node in ast.walk(function) if isinstance(node, ast.Yield)]
+        if not yields:
+            continue
+        makers.add(function.name)
+        statements = [node.value for node in ast.walk(function) if isinstance(node, ast.Expr)]
+        barred = [part for node in ast.walk(function) if isinstance(node, (ast.Try, ast.With)) for part in ast.walk(node)]
+        for node in yields:
+            if node not in statements or node in barred or function not in tree.body:
+                yield node.lineno, "a yield that is no statement of a function, or under a try or a with"
+        for node in ast.walk(function):
+            if isinstance(node, ast.Return) and node.value is not None:
+                yield node.lineno, "a generator that returns a value"
+    for node in ast.walk(tree):
+        if isinstance(node, ast.Name) and node.id in makers:
+            yield node.lineno, f"the generator {node.id} is used"
 
 
 def check_calls(text, tree, own):
@@ -299,4 +320,5 @@ def check_classes(text, tree):
 
 
 CHECKS = (
-    check_sizes, check_imports, check_module_level, check_names, check_statements, check_values, check_classes)
+    check_sizes, check_imports, check_module_level, check_names, check_statements, check_values, check_generators,
+    check_classes)

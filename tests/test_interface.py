@@ -42,8 +42,33 @@ INTERFACE = {
         "Format(n, width, *, recents=(), copied='front', again='front', tables, restarts=False)", "Format.n",
         "Format.width", "Format.recents", "Format.copied", "Format.again_rule", "Format.restarts", "Format.__len__()",
         "Format.__eq__(other)", "Format.table(number)", "Format.shown()", "Format.read(lines)"),
+    "controls": (
+        "Controls(fmt)", "Controls.fmt", "Controls.__len__()", "Controls.__iter__()", "Controls.__contains__(x)",
+        "Controls.number_of(control)", "Controls.at_number(number)", "Controls.words(number)",
+        "Controls.token(number, word)", "Controls.behind(number, word)", "Controls.begun_words(number)",
+        "Controls.rests(number, begun)", "Controls.way(number)", "Controls.ended_number()"),
+    "reach": (
+        "Reach(controls)", "Reach.controls", "Reach.of(number)", "Reach.walk(number)", "Reach.noticed(number, place)",
+        "Reach.depth(number, begun)", "Reach.places(number, begun)"),
+    "classes": (
+        "Classes(one, other=None)", "Classes.one", "Classes.other", "Classes.count()",
+        "Classes.class_of(number, *, second=False)", "Classes.members(cls)", "Classes.reach(*, second=False)",
+        "Classes.walk(a, b, *, a_second=False, b_second=False)", "Classes.marks_fit(marks)"),
+    "covers": ("Covers(one, other)", "Covers.covered(a, b)", "Covers.uncovered(a, b)"),
+    "heard": ("heard_places(fmt)",),
+    "states": (
+        "start_state(fmt, window)", "check_state(fmt, state)", "check_deed(deed)", "check_future(deeds)",
+        "done(fmt, state, deed)", "shown_answer(answer)"),
+    "readers": (
+        "Reader(fmt, *, window=None)", "Reader.of_state(fmt, state)", "Reader.fmt", "Reader.control", "Reader.begun",
+        "Reader.window", "Reader.state", "Reader.ended", "Reader.take(deed)", "Reader.feed(deeds)", "Reader.restart()",
+        "Reader.lose(many=1)", "Reader.told()", "Reader.twin()"),
+    "streams": (
+        "bits_of(fmt, control, tokens)", "tokens_of(fmt, control, bits)", "letters_bits(fmt, control, row)",
+        "first_refused(fmt, state, bits)", "deeds_map(fmt, standing, deeds)", "streams_of(fmt, standing, many)",
+        "each_stream(fmt, standing, many)"),
 }
-CLASS_METHODS = ("PlaceMap.made", "Format.read")
+CLASS_METHODS = ("PlaceMap.made", "Format.read", "Reader.of_state", "Head.kept", "Head.read")
 
 
 class Interface(unittest.TestCase):

@@ -16,6 +16,8 @@ GROUPS = (
     ("placemaps", "blocks", "likeness", "nearest", "fewest"),
     ("signs", "words", "tables", "bitrows"),
     ("formats", "controls", "reach", "classes", "covers", "heard"),
+    ("states", "readers", "streams"),
+    ("leasts", "patterns", "alikes", "noticing", "nexts", "heads", "rests"),
 )
 
 
@@ -123,7 +125,10 @@ class TheChecks(unittest.TestCase):
                 "import os", "from os import path", "from leastreader.letters import *", "from .letters import HOLE",
                 "x = 1\nx = 2", "x = [[1]]", "x = print", "print(1)", "x = 1.5", "x = '\\u00e9'[0]", "def len(x):\n    pass",
                 "def f(x: int):\n    return x", "def f(id):\n    return id", "def f(x):\n    return x / 2",
-                "def f(x):\n    return any(y for y in x)", "def f(x):\n    yield x", "def f(x):\n    return 2 ** x",
+                "def f(x):\n    return any(y for y in x)", "def f(x):\n    y = yield x",
+                "class C:\n    def f(self):\n        yield self", "def f(x):\n    with x:\n        yield x",
+                "def f(x):\n    yield x\n    return 1", "def f(x):\n    yield x\ndef g(x):\n    return f(x)",
+                "def f(x):\n    yield from x", "def f(x):\n    return 2 ** x",
                 "def f(x):\n    return x is f", "def f(x):\n    return x.hex()", "def f(x):\n    return open(x)",
                 "def f(x):\n    return type(x)", "def f(x):\n    return set(x)", "def f(x):\n    raise x",
                 "def f(x):\n    return 'a %d' % x", "class C:\n    x = 1\n    def __hash__(self):\n        return 1",
