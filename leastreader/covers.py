@@ -79,8 +79,6 @@ class Covers:
 
     def covered(self, a, b):
         """True if the control of the first format is covered by that of the second one."""
-        self._one.check_number(a)
-        self._other.check_number(b)
         return self.pair_of(a, b) not in self._leads
 
     def uncovered(self, a, b):

@@ -46,7 +46,7 @@ def check_state(fmt, state):
 
 def check_deed(deed):
     """Returns the deed."""
-    if not isinstance(deed, str) or deed not in DEEDS:
+    if deed not in DEEDS:
         raise BadDeed("not a deed")
     return deed
 

@@ -3,7 +3,7 @@
 import itertools
 import random
 
-from helpers import AGAIN, COPIED, slow_again, slow_copied, slow_words, some_recents, some_rows
+from helpers import AGAIN, COPIED, slow_again, slow_copied, slow_spread, slow_words, some_recents, some_rows
 from leastreader.errors import ReaderError
 from leastreader.formats import Format
 
@@ -334,3 +334,19 @@ def streams_so_far_alike(one, other, pair, pairs):
         if answer != ("refused",) and (answer != met or (a, b) not in pairs):
             return False
     return True
+
+
+def shuffled(dice, fmt):
+    """A format with the same words, of which some have each other's tokens."""
+    tables = []
+    for j in range(len(fmt)):
+        rows = list(fmt.table(j).pairs())
+        sizes = [(length, len(slow_spread(sign))) for sign, length in rows]
+        for size in set(sizes):
+            places = [at for at, other in enumerate(sizes) if other == size]
+            signs = [rows[at][0] for at in places]
+            dice.shuffle(signs)
+            for at, sign in zip(places, signs):
+                rows[at] = (sign, rows[at][1])
+        tables.append(rows)
+    return remade(fmt, tables=tables)

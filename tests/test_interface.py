@@ -67,6 +67,27 @@ INTERFACE = {
         "bits_of(fmt, control, tokens)", "tokens_of(fmt, control, bits)", "letters_bits(fmt, control, row)",
         "first_refused(fmt, state, bits)", "deeds_map(fmt, standing, deeds)", "streams_of(fmt, standing, many)",
         "each_stream(fmt, standing, many)"),
+    "leasts": (
+        "least_state(classes, state, *, second=False)", "state_with(classes, held, *, second=False)",
+        "kept_letters(held)"),
+    "patterns": (
+        "pattern_of(classes, standing, *, second=False)", "shape_of(pattern)", "filled_pattern(pattern, window)",
+        "alike_windows(classes, one, other, *, second=False)",
+        "unlike_rest(classes, one, other, window, *, second=False)"),
+    "alikes": (
+        "alike(classes, one, other, *, second=False)", "parting_future(classes, one, other, *, second=False)",
+        "read_alike(classes, one, other, *, second=False)", "parting_stream(classes, one, other, *, second=False)"),
+    "noticing": (
+        "places_of(classes, standing, *, second=False)", "unnoticed(classes, standing, *, second=False)",
+        "noticed_by(classes, standing, place, *, second=False)",
+        "unsettled(classes, standing, places, *, second=False)"),
+    "nexts": ("next_least(classes, held, deed)", "least_behind(classes, held, deeds)"),
+    "heads": (
+        "Head(classes, held)", "Head.kept(classes, state, *, second=False)", "Head.read(classes, text)", "Head.held",
+        "Head.__len__()", "Head.__eq__(other)", "Head.reader()", "Head.text()"),
+    "rests": (
+        "needs_of(fmt, standing, deeds)", "needs_of_all(fmt, standing, futures)", "kinds(fmt, standing, futures)",
+        "first_apart(fmt, standing, deeds, window, other)"),
 }
 CLASS_METHODS = ("PlaceMap.made", "Format.read", "Reader.of_state", "Head.kept", "Head.read")
 

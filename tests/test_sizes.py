@@ -5,19 +5,27 @@ import random
 import time
 
 from helpers import Case
+from leastreader.alikes import alike, parting_future, parting_stream, read_alike
 from leastreader.classes import Classes
 from leastreader.controls import Controls
 from leastreader.covers import Covers
 from leastreader.formats import Format
+from leastreader.heads import Head
 from leastreader.heard import heard_places
+from leastreader.leasts import least_state, state_with
+from leastreader.nexts import least_behind, next_least
+from leastreader.noticing import noticed_by, places_of, unsettled
+from leastreader.patterns import alike_windows, pattern_of, unlike_rest
 from leastreader.reach import Reach
 from leastreader.readers import Reader
+from leastreader.rests import first_apart, kinds, needs_of_all
 from leastreader.states import done
 from leastreader.streams import (
     bits_of, deeds_map, each_stream, first_refused, letters_bits, streams_of, tokens_of)
-from slow import slow_controls, slow_deeds, slow_output, some_deeds, written_tokens
+from slow import (
+    remade, slow_controls, slow_deeds, slow_output, slow_standings, some_deeds, some_state, unknown, written_tokens)
 
-SECONDS = 20
+SECONDS = 60
 
 
 def large(*, heard=True, apart=True, restarts=True):
@@ -145,3 +153,80 @@ class Long(Timed):
             self.same(found, sorted(set(found)))
             self.same({len(bits) for bits in found}, {40})
             self.same(len(list(each_stream(fmt, standing, 12))), counts[12])
+
+
+class Leasts(Timed):
+    def test_states_of_600_standings(self):
+        dice = random.Random(600)
+        for fmt in (widest(), crowded()):
+            classes = Classes(Controls(fmt))
+            standings = slow_standings(fmt)
+            for standing in standings:
+                state = some_state(dice, fmt, [standing])
+                held = least_state(classes, state)
+                found = state_with(classes, held)
+                self.same(least_state(classes, found), held)
+                self.assertTrue(alike(classes, state, found))
+                places = places_of(classes, standing)
+                for place in places[:1] + places[-1:]:
+                    deeds = noticed_by(classes, standing, place)
+                    answers = slow_deeds(fmt, standing + (unknown(24),), deeds)[0]
+                    self.assertIn(-place, answers[-1][1])
+                self.same(unsettled(classes, standing, places), None)
+                other = some_state(dice, fmt, standings)
+                if not alike(classes, state, other):
+                    deeds = parting_future(classes, state, other)
+                    one, last = slow_deeds(fmt, state, deeds)[0], slow_deeds(fmt, other, deeds)[0]
+                    self.same(one[:-1], last[:-1])
+                    self.assertNotEqual(one[-1], last[-1])
+                count, window = alike_windows(classes, standing, other[:2])
+                self.assertTrue(count == 0 or unlike_rest(classes, standing, other[:2], window) is None)
+
+    def test_2000_deeds_from_least_states(self):
+        dice = random.Random(2001)
+        for fmt in (large(), crowded()):
+            classes, deeds = Classes(Controls(fmt)), some_deeds(dice, 2000, ("0", "1") * 40 + ("restart", "loss"))
+            state = ((0, fmt.recents), "", tuple(dice.randrange(16) for _ in range(fmt.width)))
+            answers, behind = slow_deeds(fmt, state, deeds)
+            held = least_state(classes, state)
+            self.same(least_behind(classes, held, deeds), (answers, least_state(classes, behind)))
+            now = held
+            for deed, answer in zip(deeds, answers):
+                met, now = next_least(classes, now, deed)
+                self.same(met, answer)
+            self.same(now, least_state(classes, behind))
+            heads = [Head.kept(classes, slow_deeds(fmt, state, deeds[:cut])[1]) for cut in range(0, 2000, 20)]
+            texts = [head.text() for head in heads]
+            self.assertTrue(all(Head.read(classes, text) == head for text, head in zip(texts, heads)))
+
+    def test_two_large_formats(self):
+        dice = random.Random(150)
+        one, other = large(), large(apart=False)
+        classes = Classes(Controls(one), Controls(other))
+        first, last = slow_controls(one), slow_controls(other)
+        for control, met in zip(first, reversed(last)):
+            a, b = some_state(dice, one, [(control, "")]), some_state(dice, other, [(met, "")])
+            self.assertFalse(read_alike(classes, a, b, second=True))
+            for deeds in (parting_stream(classes, a, b, second=True), parting_future(classes, a, b, second=True)):
+                answers, unlike = slow_deeds(one, a, deeds)[0], slow_deeds(other, b, deeds)[0]
+                self.same(answers[:-1], unlike[:-1])
+                self.assertNotEqual(answers[-1], unlike[-1])
+            self.same(pattern_of(classes, (control, ""))[2], 5)
+        same = Classes(Controls(one), Controls(remade(one, restarts=True)))
+        for control in list(first)[::10]:
+            state = some_state(dice, one, [(control, "")])
+            self.assertTrue(read_alike(same, state, state, second=True))
+            self.same(parting_future(same, state, state, second=True), None)
+
+    def test_futures_of_2000_deeds_known_ahead(self):
+        dice = random.Random(87)
+        for fmt in (large(), widest(), crowded()):
+            futures = [some_deeds(dice, 2000, ("0", "1") * 40 + ("restart",)) for _ in range(5)]
+            standing = ((0, fmt.recents), "")
+            places = needs_of_all(fmt, standing, futures)
+            self.same(kinds(fmt, standing, futures), 16 ** len(places))
+            window = tuple(dice.randrange(15) for _ in range(fmt.width))
+            other = tuple(15 if p in places else window[-p] for p in range(fmt.width, 0, -1))
+            self.assertTrue(any(first_apart(fmt, standing, deeds, window, other) is not None for deeds in futures))
+            rest = tuple(15 if p not in places else window[-p] for p in range(fmt.width, 0, -1))
+            self.same([first_apart(fmt, standing, deeds, window, rest) for deeds in futures], [None] * 5)
