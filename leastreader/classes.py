@@ -1,5 +1,6 @@
 """Classes: controls that nothing to come can tell apart, of one format or of two."""
 
+from leastreader.controls import controls_of
 from leastreader.errors import BadClass, BadState
 from leastreader.letters import is_series, is_whole, is_within
 from leastreader.reach import Reach
@@ -149,3 +150,10 @@ class Classes:
             if found.setdefault(mark, key) != key:
                 return False
         return True
+
+
+def classes_of(fmt):
+    """The classes of the format alone, worked out when they are needed for the first time."""
+    if fmt.known_classes is None:
+        fmt.known_classes = Classes(controls_of(fmt))
+    return fmt.known_classes

@@ -58,8 +58,10 @@ class Format:
         self._head = head_lines(n, width, self._recents, copied, again, restarts)
         many = len(self._recents)
         self._tables = tuple([Table(rows, n=n, width=width, many=many, tables=len(tables)) for rows in tables])
-        # Functions that take a format need its reached controls again and again; controls_of keeps them here.
+        # Functions that take a format need its reached controls and their classes again and again; controls_of and
+        # classes_of keep them here.
         self.known_controls = None
+        self.known_classes = None
 
     @classmethod
     def read(cls, lines):

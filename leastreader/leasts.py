@@ -2,14 +2,13 @@
 
 from leastreader.errors import NoState
 from leastreader.letters import HOLE, is_entry, is_whole
-from leastreader.patterns import filled_pattern, output_entries, pattern_at, shape_of
+from leastreader.patterns import least_at, output_entries, pattern_at, shape_of
 from leastreader.states import check_state_of
 
 
 def least_state(classes, state, *, second=False):
     """The least state of the state."""
-    control, begun, window = check_state_of(classes.reach(second=second).controls, state)
-    return filled_pattern(pattern_at(classes, (control, begun), second), window)
+    return least_at(classes, check_state_of(classes.reach(second=second).controls, state), second)
 
 
 def kept_letters(held):

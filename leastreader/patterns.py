@@ -19,8 +19,8 @@ def rest_rows(classes, standing, window, second):
     return tuple(rows)
 
 
-def pattern_at(classes, standing, second):
-    """The pattern of a checked standing."""
+def worked_pattern(classes, standing, second):
+    """The pattern of a checked standing, worked out."""
     reach = classes.reach(second=second)
     control, begun = standing
     number = reach.controls.number_of(control)
@@ -28,6 +28,14 @@ def pattern_at(classes, standing, second):
     if begun == "":
         return ("at", classes.class_of(number, second=second), depth)
     return ("in", rest_rows(classes, standing, unknown_window(reach.controls.fmt.width), second), depth)
+
+
+def pattern_at(classes, standing, second):
+    """The pattern of a checked standing, worked out when first needed."""
+    found = classes.known.setdefault("second patterns" if second else "first patterns", {})
+    if standing not in found:
+        found[standing] = worked_pattern(classes, standing, second)
+    return found[standing]
 
 
 def pattern_of(classes, standing, *, second=False):
@@ -60,6 +68,11 @@ def filled_pattern(pattern, window):
     for rest, answer, mark in pattern[1]:
         rows.append((rest, ("told", filled_row(answer[1], window)) if answer[0] == "told" else answer, mark))
     return ("in", tuple(rows), kept)
+
+
+def least_at(classes, state, second):
+    """The least state of a checked state; its window may hold any values."""
+    return filled_pattern(pattern_at(classes, state[:2], second), state[2])
 
 
 def output_entries(pattern):

@@ -165,6 +165,8 @@ def check_module_level(text, tree):
 def check_names(text, tree):
     """L8, L12, L15 and L17."""
     known = {name for _, name in bound_names(tree)}
+    # A setter names its property.
+    known |= {node.name for node in functions(tree) for mark in node.decorator_list if isinstance(mark, ast.Attribute)}
     for line, name in bound_names(tree):
         if hasattr(builtins, name):
             yield line, f"{name} is the name of a builtin"

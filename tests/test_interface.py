@@ -88,6 +88,24 @@ INTERFACE = {
     "rests": (
         "needs_of(fmt, standing, deeds)", "needs_of_all(fmt, standing, futures)", "kinds(fmt, standing, futures)",
         "first_apart(fmt, standing, deeds, window, other)"),
+    "machines": (
+        "Machine(rows, *, restarts=False)", "Machine.restarts", "Machine.menu", "Machine.__len__()",
+        "Machine.__eq__(other)", "Machine.rows()", "Machine.run(deeds)", "Machine.state_behind(deeds)",
+        "Machine.reached()", "Machine.renumbered()", "Machine.doubled()"),
+    "leastmachines": ("least_machine(fmt, window)", "parting_row(machine, a, b)", "folded(machine)"),
+    "rightness": ("erring_row(fmt, window, machine)", "states_map(fmt, window, machine)"),
+    "counts": ("beginnings(fmt)", "shapes(fmt)", "common(patterns, n)", "begun_count(fmt)", "least_count(fmt)"),
+    "lots": (
+        "lost_lot(fmt)", "moved_lot(fmt, lot, bits)", "classes_of_lot(classes, lot)",
+        "least_map(classes, standing, deeds, *, second=False)"),
+    "joins": (
+        "joining_two(fmt, one, other)", "closed_pairs(fmt, one, other)", "joining(fmt, lot)", "never_joined(fmt)"),
+    "sure": (
+        "is_sure(fmt, lot, bits)", "unsure(fmt, lot, bits)", "first_sure(fmt, lot, bits)", "sure_row(fmt)",
+        "sure_answers(fmt, lot, bits)"),
+    "turned": (
+        "turned_bit(bits, at)", "healed(fmt, state, bits, other)", "spoilt(fmt, standing, deeds, places)",
+        "heals(fmt, standing, deeds, places)"),
 }
 CLASS_METHODS = ("PlaceMap.made", "Format.read", "Reader.of_state", "Head.kept", "Head.read")
 
