@@ -41,7 +41,8 @@ def links_between(entries, others):
     """For each entry of the second pattern the different entries of the first one that it meets."""
     found = {}
     for entry, other in zip(entries, others):
-        found.setdefault(other, {})[entry] = True
+        met = found.setdefault(other, {})
+        met[entry] = True
     return [(other, list(met)) for other, met in found.items()]
 
 

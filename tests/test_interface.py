@@ -106,6 +106,29 @@ INTERFACE = {
     "turned": (
         "turned_bit(bits, at)", "healed(fmt, state, bits, other)", "spoilt(fmt, standing, deeds, places)",
         "heals(fmt, standing, deeds, places)"),
+    "soon": (
+        "Soon(fmt)", "Soon.of(number, place)", "Soon.from_standing(standing, place)", "Soon.by_place(standing)",
+        "Soon.stream(standing, place)", "Soon.horizon(standing)"),
+    "apart": (
+        "fewest_apart(fmt, standing, window, other)", "noticed_within(fmt, standing, most)",
+        "kinds_within(fmt, standing, most)"),
+    "forgets": (
+        "Forgets(fmt)", "Forgets.of(number, known=())", "Forgets.way(number, known=())",
+        "Forgets.known_behind(number, word, known=())"),
+    "texts": (
+        "TextWays(fmt, window, text)", "TextWays.of(number, index=0)", "TextWays.way(number)", "TextWays.bits(number)",
+        "TextWays.drops(number, way)", "shorter_copy(fmt, number)"),
+    "pieces": (
+        "Pieces(fmt, rows)", "Pieces.__len__()", "Pieces.bounds(k)", "Pieces.letters(k)",
+        "Pieces.told(window, *, lost=())", "Pieces.source(at)", "Pieces.spoilt(lost)", "Pieces.needed(a, b)",
+        "Pieces.late(k)", "Pieces.joined(other)"),
+    "desks": (
+        "Desk(fmt, *, window=None)", "Desk.fmt", "Desk.state", "Desk.told_text", "Desk.take(deed)", "Desk.feed(deeds)",
+        "Desk.restart()", "Desk.lose(many=1)", "Desk.undo(many=1)", "Desk.keep(name)", "Desk.head(name)",
+        "Desk.go_on(name)", "Desk.forget(name)", "Desk.names()", "Desk.least()", "Desk.alike(other)",
+        "Desk.parting(other)", "Desk.twin()", "Desk.trial()"),
+    "trials": ("Trial(desk)", "Trial.__enter__()", "tried(desk, acts)", "abandoned(desk, deeds)"),
+    "listings": ("table_lines(table)", "format_lines(fmt)", "heads_lines(desk)", "machine_lines(machine)"),
 }
 CLASS_METHODS = ("PlaceMap.made", "Format.read", "Reader.of_state", "Head.kept", "Head.read")
 

@@ -20,6 +20,8 @@ GROUPS = (
     ("leasts", "patterns", "alikes", "noticing", "nexts", "heads", "rests"),
     ("machines", "leastmachines", "rightness", "counts"),
     ("lots", "joins", "sure", "turned"),
+    ("soon", "apart", "forgets", "texts"),
+    ("pieces", "desks", "trials", "listings"),
 )
 
 
