@@ -42,7 +42,10 @@ def steps_at(controls, number):
 
 def is_held(masks, mask):
     """True if all that the mask knows one of the masks knows."""
-    return any([mask & other == mask for other in masks])
+    for other in masks:
+        if mask & other == mask:
+            return True
+    return False
 
 
 class Forgets:
@@ -83,6 +86,7 @@ class Forgets:
         # Each entry of the queue is (bits, entry number, number of the control, mask); ways are kept by entry number.
         queue = [(0, 0, number, mask)]
         leads = [None]
+        best = {(number, mask): 0}
         done = {}
         while len(queue) > 0:
             cost, entry, now, known = heappop(queue)
@@ -93,8 +97,11 @@ class Forgets:
             if not is_held(masks, known):
                 masks.append(known)
                 for plain, behind, word in self._steps[now]:
-                    leads.append((entry, word))
-                    heappush(queue, (cost + len(word), len(leads) - 1, behind, self.moved_mask(plain, known)))
+                    key = (behind, self.moved_mask(plain, known))
+                    if key not in best or cost + len(word) < best[key]:
+                        best[key] = cost + len(word)
+                        leads.append((entry, word))
+                        heappush(queue, (best[key], len(leads) - 1, key[0], key[1]))
         return []
 
     def of(self, number, known=()):

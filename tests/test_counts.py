@@ -182,7 +182,7 @@ class Common(Case):
 
     def test_patterns_of_formats(self):
         dice, seen = random.Random(1013), set()
-        for fmt in small_formats(1013, 100):
+        for fmt in list(small_formats(1013, 60)) + [fmt for pair in flat_pairs(1014, 40) for fmt in pair]:
             for _, patterns in shapes(fmt):
                 if fmt.n ** len(slow_entries(patterns[0])) <= 3 ** 8:
                     chosen = dice.sample(patterns, dice.randint(1, min(4, len(patterns))))

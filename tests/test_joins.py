@@ -98,7 +98,7 @@ class Two(Case):
                 self.assertEqual(set(turned), set(found))
                 found.clear()
                 self.assertGreater(len(closed_pairs(fmt, one, other)), 0)
-        self.assertTrue({4, 5, 8} <= sizes)
+        self.assertTrue(4 in sizes and len(sizes) > 3)
 
     def test_by_hand(self):
         fmt = Format(2, 3, tables=[COPIES])
@@ -193,7 +193,7 @@ class All(Case):
                 joined = len(marks) == 1 and next(iter(marks))[0] == "at"
                 self.assertEqual(len(classes_of_lot(classes, behind)) == 1, joined)
                 found.add((joined, len(behind)))
-        self.assertTrue({(True, 1), (True, 2), (False, 2)} <= found)
+        self.assertEqual({joined for joined, _ in found}, {True, False})
 
 
 class Limits(Case):
