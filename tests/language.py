@@ -321,6 +321,72 @@ def check_classes(text, tree):
                     yield part.lineno, "__len__ that does not end with return"
 
 
+def check_library(text, tree):
+    """L2: what comes from the library is only called, by its bare name, in a function that is no property."""
+    names = {
+        alias.name for node in tree.body if isinstance(node, ast.ImportFrom) and node.module in LIBRARY for alias in node.names}
+    called = {node.func for node in ast.walk(tree) if isinstance(node, ast.Call) and not node.keywords}
+    for node in ast.walk(tree):
+        if isinstance(node, ast.Name) and node.id in names and node not in called:
+            yield node.lineno, f"{node.id} is not called, or not by position"
+    for function in functions(tree):
+        if function.decorator_list or function.name.startswith("__"):
+            for node in ast.walk(function):
+                if isinstance(node, ast.Name) and node.id in names:
+                    yield node.lineno, f"{node.id} in a property or a double-underscore method"
+
+
+def check_with(text, tree):
+    """L6: what stands behind with, and the rows of __exit__."""
+    simple = (ast.Name, ast.Attribute, ast.Constant)
+    for node in ast.walk(tree):
+        if isinstance(node, ast.With):
+            for item in node.items:
+                if not isinstance(item.context_expr, (ast.Call, ast.Name, ast.Attribute)):
+                    yield node.lineno, "a with over what is no call, name or attribute"
+        if isinstance(node, ast.FunctionDef) and node.name == "__exit__":
+            for row in node.body:
+                if not isinstance(row, ast.Assign) or len(row.targets) != 1 or not isinstance(row.value, simple):
+                    yield row.lineno, "__exit__ does more than assign names and attributes"
+
+
+def iterated(node):
+    """The written forms of what a loop or a comprehension iterates over."""
+    if isinstance(node, ast.IfExp):
+        return iterated(node.body) + iterated(node.orelse)
+    if isinstance(node, ast.Call) and isinstance(node.func, ast.Name) and node.func.id in ("enumerate", "zip", "reversed"):
+        return [form for part in node.args for form in iterated(part)]
+    if isinstance(node, ast.Call) and isinstance(node.func, ast.Attribute) and node.func.attr in ("items", "keys", "values"):
+        return iterated(node.func.value)
+    return [ast.unparse(node)] if isinstance(node, (ast.Name, ast.Attribute, ast.Subscript)) else []
+
+
+def modified(node):
+    """The written form of what a node modifies, or None."""
+    if isinstance(node, ast.Call) and isinstance(node.func, ast.Attribute) and node.func.attr in (
+            "append", "clear", "extend", "insert", "pop", "remove", "reverse", "setdefault", "update", "add", "discard"):
+        return ast.unparse(node.func.value)
+    if isinstance(node, ast.Call) and isinstance(node.func, ast.Name) and node.func.id in LIBRARY["heapq"] and node.args:
+        return ast.unparse(node.args[0])
+    if isinstance(node, ast.Subscript) and isinstance(node.ctx, (ast.Store, ast.Del)):
+        return ast.unparse(node.value)
+    return None
+
+
+def check_loops(text, tree):
+    """L23: what a loop or a comprehension iterates over is not modified in it."""
+    for node in ast.walk(tree):
+        if isinstance(node, ast.For):
+            over, inner = iterated(node.iter), node.body
+        elif isinstance(node, (ast.ListComp, ast.SetComp, ast.DictComp, ast.GeneratorExp)):
+            over, inner = [form for part in node.generators for form in iterated(part.iter)], [node]
+        else:
+            continue
+        for part in (part for row in inner for part in ast.walk(row)):
+            if modified(part) in over:
+                yield part.lineno, f"{modified(part)} is modified while a loop iterates over it"
+
+
 CHECKS = (
     check_sizes, check_imports, check_module_level, check_names, check_statements, check_values, check_generators,
-    check_classes)
+    check_classes, check_library, check_with, check_loops)

@@ -137,6 +137,12 @@ class TheChecks(unittest.TestCase):
                 "def f(x):\n    return type(x)", "def f(x):\n    return set(x)", "def f(x):\n    raise x",
                 "def f(x):\n    return 'a %d' % x", "class C:\n    x = 1\n    def __hash__(self):\n        return 1",
                 "def f(x):\n" + "    x = 1\n" * 40, "x = 1\n" + "# a\n" * 400, "x = 1  #" + "a" * 120, "x = 1\t",
+                "from heapq import heappop\ndef f(x):\n    return heappop", "from heapq import heappop\nclass C:\n    @property\n"
+                "    def f(self):\n        return heappop(self.x)", "def f(x):\n    with x[0]:\n        pass",
+                "class C:\n    def __exit__(self, kind, value, trace):\n        self.x.append(1)",
+                "def f(x):\n    for y in x:\n        x.append(y)", "def f(x):\n    for k, y in enumerate(x):\n        x[k] = y",
+                "from heapq import heappush\ndef f(x):\n    for y in x:\n        heappush(x, y)",
+                "def f(x):\n    for k in x.values():\n        del x[k]", "def f(x):\n    return [x.pop() for y in x]",
                 "def f(x=[]):\n    return x", "class C:\n    pass", "def f(x):\n    global y\n    y = x"):
             with self.subTest(fault=fault[:60]):
                 text = fault + "\n"
